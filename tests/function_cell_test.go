@@ -84,6 +84,38 @@ func TestTextsByCell(t *testing.T) {
 	wantSingle(t, "TRIM", "inner blanks", impl.CallFunction("TRIM", []impl.Grid{fullGrid(1, 1, wordsVal("  "+strings.Repeat(" a", 499)))}), wordsVal(strings.Repeat("a ", 498)+"a"))
 }
 
+// TestLettersByBytes has each byte that may be in a text, alone, in a row, and behind each other one.
+func TestLettersByBytes(t *testing.T) {
+	small := func(text string) string {
+		out := ""
+		for i := range len(text) {
+			at := strings.IndexByte("ABCDEFGHIJKLMNOPQRSTUVWXYZ", text[i])
+			if at < 0 {
+				out += text[i : i+1]
+				continue
+			}
+			out += "abcdefghijklmnopqrstuvwxyz"[at : at+1]
+		}
+		return out
+	}
+	check := func(text string) {
+		got := impl.CallFunction("LOWER", []impl.Grid{fullGrid(1, 1, wordsVal(text))})
+		wantSingle(t, "LOWER", text, got, wordsVal(small(text)))
+		// Capitals of the small letters are those of the text.
+		wantGrid(t, "UPPER", text, impl.CallFunction("UPPER", []impl.Grid{got}), impl.CallFunction("UPPER", []impl.Grid{fullGrid(1, 1, wordsVal(text))}))
+	}
+	check("")
+	check(allBytes())
+	check(strings.Repeat(allBytes(), 10))
+	check(strings.Repeat("Z", 1000))
+	for a := 32; a <= 126; a++ {
+		check(string(rune(a)))
+		for b := 32; b <= 126; b++ {
+			check(string(rune(b)) + string(rune(a)))
+		}
+	}
+}
+
 func TestTextsAtTheLimit(t *testing.T) {
 	text := func(s string) impl.Grid { return fullGrid(1, 1, wordsVal(s)) }
 	full := text(letters(1000))
